@@ -1,0 +1,1 @@
+"""Keepbefore: a slow disk with a fast disk before it."""
