@@ -36,7 +36,7 @@ class Disk:
         self._pending = []
 
     def fail(self, kept):
-        if not _are_kept(kept, len(self._pending)):
+        if not are_kept(kept, len(self._pending)):
             raise InvalidKept("not a tuple of ascending numbers of pending writes")
         for number in kept:
             cell, content = self._pending[number]
@@ -65,7 +65,8 @@ class Disk:
             raise InvalidCell("not the number of a cell")
 
 
-def _are_kept(kept, many):
+def are_kept(kept, many):
+    """Whether this is a tuple of ascending numbers of so many pending writes."""
     if not isinstance(kept, tuple):
         return False
     least = 0

@@ -1,9 +1,26 @@
 """What several tests need: examples as the document writes them, and things of other kinds."""
 
 import ast
+import itertools
 import re
 
 from keepbefore import errors
+
+# The words of each part of the rules but the bound.
+WORDS = [["through", "back", "around"], ["keep", "pass"], ["used", "came", "rare"]]
+TRIPLES = sorted(itertools.product(*WORDS))
+
+WRITE_STEPS = ["slow", "sync slow", "fast", "sync fast", "free", "done"]
+CLEAN_STEPS = ["slow", "sync slow", "mark", "sync fast"]
+SYNCS = ["sync slow", "sync fast"]
+STEPS = [WRITE_STEPS, WRITE_STEPS, WRITE_STEPS, CLEAN_STEPS]
+
+SAFE = (
+    ("slow", "sync slow", "fast", "sync fast", "done"),
+    ("fast", "sync fast", "done", "free", "sync fast"),
+    ("slow", "sync slow", "free", "sync fast", "done"),
+    ("slow", "sync slow", "mark", "sync fast"),
+)
 
 # One of each kind that an argument with an error may be, and numbers far off.
 OTHER_KINDS = [
@@ -35,3 +52,24 @@ def example_result(text):
 def kept_parts(many):
     """All tuples of ascending numbers below `many`."""
     return [tuple(at for at in range(many) if bits >> at & 1) for bits in range(1 << many)]
+
+
+def rule_parts(rules):
+    return (rules.writing, rules.reading, rules.choice, rules.bound)
+
+
+def recipe_parts(recipes):
+    return (recipes.through, recipes.back, recipes.around, recipes.clean)
+
+
+def any_recipe(source, part):
+    """A valid recipe: each other word at most once, and syncs anywhere between."""
+    others = [word for word in STEPS[part] if word not in SYNCS and word != "done" and source.random() < 0.6]
+    words = others + ["done"] * (part < 3)
+    words += [source.choice(SYNCS) for _ in range(source.randint(0, 8 - len(words)))]
+    source.shuffle(words)
+    return tuple(words)
+
+
+def any_recipes(source):
+    return tuple(any_recipe(source, part) for part in range(4))

@@ -27,8 +27,13 @@ BARRED_NAMES = re.compile(
     r"|_written_out|(_wall|_pe_|_dcw_|_enum_|_cm_|_twin_re_|_lay_|_law_|_stub_|_sre).*"
 )
 
-# For each listed class its methods and properties; for each one and for each function its parameters.
+# For each listed class its methods and properties, for each one of these and for each function its parameters.
 INTERFACE = {
+    "costs": {
+        "cost": "(counts, prices)",
+        "run": "(blocks, slots, rules, requests)",
+        "cheapest": "(blocks, slots, bound, requests, prices)",
+    },
     "disks": {
         "Disk": {
             "__init__": "(self, cells, *, content=0)",
@@ -41,6 +46,36 @@ INTERFACE = {
             "pending": property,
             "counts": property,
         },
+    },
+    "pairs": {
+        "Pair": {
+            "__init__": "(self, blocks, slots, rules, *, recipes=None)",
+            "read": "(self, block)",
+            "write": "(self, block, value)",
+            "forget": "(self, block)",
+            "clean_up": "(self, count)",
+            "restart": "(self, slow_kept, fast_kept)",
+            "lose_slow": "(self)",
+            "lose_fast": "(self)",
+            "settle": "(self)",
+            "set_rules": "(self, rules)",
+            "fail_at": "(self, steps)",
+            "cut": "(self)",
+            "give_fast": "(self, slots)",
+            "block_values": property,
+            "dirty": property,
+            "known": property,
+            "hits": property,
+            "requests": property,
+            "rules": property,
+            "counts": property,
+            "pending": property,
+            "is_on": property,
+        },
+    },
+    "plans": {
+        "fewest_misses": "(slots, blocks)",
+        "judge_plan": "(slots, blocks, plan)",
     },
     "rules": {
         "Rules": {
@@ -59,19 +94,38 @@ INTERFACE = {
             "clean": property,
         },
     },
+    "stories": {
+        "tell": "(recipes, story)",
+        "is_bad": "(recipes, story)",
+        "first_story": "(recipes, most)",
+        "lean": "(recipes, word, most)",
+        "outcomes": "(blocks, slots, rules, recipes, requests)",
+    },
 }
 
 
 class InterfaceTest(unittest.TestCase):
-    def test_each_method_stands_in_its_class(self):
-        for name, classes in INTERFACE.items():
+    def test_each_name_is_defined_in_its_file(self):
+        for name, things in INTERFACE.items():
+            tree = ast.parse((FOLDER / f"{name}.py").read_text(encoding="utf-8"))
+            defined = {node.name for node in tree.body if isinstance(node, (ast.FunctionDef, ast.ClassDef))}
+            self.assertLessEqual(set(things), defined, name)
+
+    def test_functions(self):
+        for name, things in INTERFACE.items():
             module = importlib.import_module(f"keepbefore.{name}")
-            for class_name, methods in classes.items():
-                listed = getattr(module, class_name)
-                self.assertEqual(listed.__module__, module.__name__)
-                for method, told in methods.items():
-                    with self.subTest(f"{class_name}.{method}"):
-                        self.assert_is_as_told(vars(listed)[method], told)
+            for thing, told in things.items():
+                if isinstance(told, str):
+                    self.assert_is_as_told(getattr(module, thing), told)
+
+    def test_each_method_stands_in_its_class(self):
+        for name, things in INTERFACE.items():
+            module = importlib.import_module(f"keepbefore.{name}")
+            for class_name, methods in things.items():
+                if isinstance(methods, dict):
+                    for method, told in methods.items():
+                        with self.subTest(f"{class_name}.{method}"):
+                            self.assert_is_as_told(vars(getattr(module, class_name))[method], told)
 
     def assert_is_as_told(self, method, told):
         if isinstance(told, str):
@@ -120,7 +174,8 @@ class LanguageTest(unittest.TestCase):
         self.assertRegex(node.module, r"^keepbefore\.[a-z][a-z0-9_]*$")
         source = (FOLDER / f"{node.module.split('.')[1]}.py").read_text(encoding="utf-8")
         for alias in node.names:
-            self.assertRegex(source, rf"(?m)^(def |class |){alias.name}( = |\()")
+            defined = re.search(rf"(?m)^(def |class |){alias.name}( = |\(|:)", source)
+            self.assertIsNotNone(defined, f"{alias.name} in {node.module}")
 
     def test_names_and_nodes(self):
         others = set(dir(builtins)) - ALLOWED_BUILTINS
@@ -140,3 +195,55 @@ class LanguageTest(unittest.TestCase):
                     name = getattr(node, field, None)
                     if isinstance(name, str):
                         self.assertIsNone(BARRED_NAMES.fullmatch(name), f"{path.name}: {name}")
+
+    def test_lists_instead_of_generators(self):
+        # Rules and recipes have __eq__, so any, all, min, max, sum and sorted take lists.
+        for path, tree in self.each_tree():
+            for node in ast.walk(tree):
+                self.assertNotIsInstance(node, (ast.GeneratorExp, ast.Yield, ast.YieldFrom), path.name)
+
+    def test_is_stands_with_none_true_and_false(self):
+        for path, tree in self.each_tree():
+            for node in ast.walk(tree):
+                if isinstance(node, ast.Compare) and any(isinstance(sign, (ast.Is, ast.IsNot)) for sign in node.ops):
+                    self.assertIsInstance(node.comparators[0], ast.Constant, f"{path.name}:{node.lineno}")
+
+    def test_no_files_import_from_each_other(self):
+        imported = {}
+        for path, tree in self.each_tree():
+            imported[path.stem] = {node.module.split(".")[-1] for node in tree.body if isinstance(node, ast.ImportFrom)}
+        while imported:
+            free = [name for name, others in imported.items() if not others & set(imported)]
+            self.assertTrue(free, imported)
+            for name in free:
+                del imported[name]
+
+    def test_no_variable_has_the_name_of_a_class_an_import_or_a_builtin(self):
+        for path, tree in self.each_tree():
+            taken = set(dir(builtins))
+            for node in tree.body:
+                if isinstance(node, ast.ImportFrom):
+                    taken |= {alias.asname or alias.name for alias in node.names}
+                if isinstance(node, ast.ClassDef):
+                    taken.add(node.name)
+            for node in ast.walk(tree):
+                if isinstance(node, ast.Name) and isinstance(node.ctx, ast.Store):
+                    self.assertNotIn(node.id, taken, f"{path.name}:{node.lineno}")
+                if isinstance(node, ast.arg):
+                    self.assertNotIn(node.arg, taken, f"{path.name}:{node.lineno}")
+
+    def test_no_property_has_the_name_of_a_method(self):
+        names = {"property": set(), "method": set()}
+        for _, tree in self.each_tree():
+            for node in ast.walk(tree):
+                if isinstance(node, ast.ClassDef):
+                    for method in [part for part in node.body if isinstance(part, ast.FunctionDef)]:
+                        marks = [ast.unparse(mark) for mark in method.decorator_list]
+                        names["property" if "property" in marks else "method"].add(method.name)
+        self.assertEqual(names["property"] & names["method"], set())
+
+    def test_attributes_are_assigned_through_a_local_name(self):
+        for path, tree in self.each_tree():
+            for node in ast.walk(tree):
+                if isinstance(node, ast.Attribute) and isinstance(node.ctx, ast.Store):
+                    self.assertIsInstance(node.value, ast.Name, f"{path.name}:{node.lineno}")

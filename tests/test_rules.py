@@ -6,22 +6,11 @@ import unittest
 
 from keepbefore.errors import InvalidRecipes, InvalidRules
 from keepbefore.rules import Recipes, Rules
-from tests.helpers import OTHER_KINDS, example_result
-
-WORDS = [["through", "back", "around"], ["keep", "pass"], ["used", "came", "rare"]]
-ALL_RULES = list(itertools.product(*WORDS, range(9)))
-
-WRITE_STEPS = ["slow", "sync slow", "fast", "sync fast", "free", "done"]
-CLEAN_STEPS = ["slow", "sync slow", "mark", "sync fast"]
-SYNCS = ["sync slow", "sync fast"]
-STEPS = [WRITE_STEPS, WRITE_STEPS, WRITE_STEPS, CLEAN_STEPS]
-
-SAFE = (
-    ("slow", "sync slow", "fast", "sync fast", "done"),
-    ("fast", "sync fast", "done", "free", "sync fast"),
-    ("slow", "sync slow", "free", "sync fast", "done"),
-    ("slow", "sync slow", "mark", "sync fast"),
+from tests.helpers import (
+    OTHER_KINDS, SAFE, STEPS, SYNCS, WORDS, WRITE_STEPS, any_recipe, any_recipes, example_result, recipe_parts, rule_parts,
 )
+
+ALL_RULES = list(itertools.product(*WORDS, range(9)))
 
 EXAMPLES = ["""
 >>> from keepbefore.rules import Rules
@@ -32,27 +21,6 @@ raises InvalidRules(part=2)
 >>> Recipes(("slow", "done"), ("fast", "fast", "done"), (), ())
 raises InvalidRecipes(part=1, place=1)
 """]
-
-
-def rule_parts(rules):
-    return (rules.writing, rules.reading, rules.choice, rules.bound)
-
-
-def recipe_parts(recipes):
-    return (recipes.through, recipes.back, recipes.around, recipes.clean)
-
-
-def any_recipe(source, part):
-    """A valid recipe: each other word at most once, and syncs anywhere between."""
-    others = [word for word in STEPS[part] if word not in SYNCS and word != "done" and source.random() < 0.6]
-    words = others + ["done"] * (part < 3)
-    words += [source.choice(SYNCS) for _ in range(source.randint(0, 8 - len(words)))]
-    source.shuffle(words)
-    return tuple(words)
-
-
-def any_recipes(source):
-    return tuple(any_recipe(source, part) for part in range(4))
 
 
 def any_words(source):
