@@ -8,6 +8,8 @@ RULE_WORDS = (("through", "back", "around"), ("keep", "pass"), ("used", "came", 
 BOUND_PART = 3
 MOST_BOUND = 8
 
+# The words of the recipes, in the order of their parts.
+RECIPE_WORDS = ("through", "back", "around", "clean")
 WRITE_STEPS = ("slow", "sync slow", "fast", "sync fast", "free", "done")
 CLEAN_STEPS = ("slow", "sync slow", "mark", "sync fast")
 SYNC_STEPS = ("sync slow", "sync fast")

@@ -6,13 +6,12 @@ from keepbefore.errors import InvalidCount, InvalidKept, InvalidStory, InvalidWo
 from keepbefore.pairs import MOST_STEPS_AHEAD, Pair
 from keepbefore.records import values_after_restart
 from keepbefore.requests import carry_out, check_requests
-from keepbefore.rules import MOST_BOUND, RULE_WORDS, SYNC_STEPS, Recipes, Rules
+from keepbefore.rules import MOST_BOUND, RECIPE_WORDS, SYNC_STEPS, Recipes, Rules
 
-WRITE_TASKS = RULE_WORDS[0]
+WRITE_TASKS = ("through", "back", "around")
 ALL_TASKS = ("around", "back", "clean", "drop", "through")
 MOST_TASKS = 4
 MOST_TASKS_SEARCHED = 3
-RECIPE_WORDS = ("through", "back", "around", "clean")
 MOST_OUTCOME_BLOCKS = 3
 MOST_OUTCOME_SLOTS = 3
 MOST_OUTCOME_REQUESTS = 3

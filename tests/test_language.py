@@ -138,6 +138,65 @@ class InterfaceTest(unittest.TestCase):
         self.assertEqual(str(inspect.signature(rules.Recipes.safe)), "()")
 
 
+def is_plain(node, functions):
+    """Whether this is a plain value: no name but a function's, no index, no call, no attribute, no operator."""
+    if isinstance(node, ast.Constant):
+        return node.value is None or isinstance(node.value, (int, str, bytes))
+    if isinstance(node, ast.UnaryOp):
+        return isinstance(node.op, ast.USub) and isinstance(node.operand, ast.Constant)
+    if isinstance(node, (ast.List, ast.Tuple)):
+        return all(is_plain(part, functions) for part in node.elts)
+    if isinstance(node, ast.Dict):
+        return all(is_plain(part, functions) for part in [*node.keys, *node.values])
+    return isinstance(node, ast.Name) and node.id in functions
+
+
+def faults_at_the_top(tree):
+    """The rows of a module that are no docstring, import, function, class or a plain value for a new name."""
+    faults, functions, names = [], [], []
+    for place, node in enumerate(tree.body):
+        if isinstance(node, (ast.FunctionDef, ast.ClassDef)):
+            functions += [node.name] * isinstance(node, ast.FunctionDef)
+            names.append(node.name)
+        elif isinstance(node, ast.ImportFrom):
+            names += [alias.asname or alias.name for alias in node.names]
+        elif isinstance(node, ast.Expr) and place == 0 and isinstance(node.value, ast.Constant):
+            continue
+        elif isinstance(node, ast.Assign) and len(node.targets) == 1 and isinstance(node.targets[0], ast.Name):
+            names.append(node.targets[0].id)
+            if not is_plain(node.value, functions):
+                faults.append(node.lineno)
+        else:
+            faults.append(node.lineno)
+        if len(set(names)) < len(names):
+            faults.append(node.lineno)
+            names = list(set(names))
+    return faults
+
+
+class TopTest(unittest.TestCase):
+    def test_each_name_is_assigned_a_plain_value_once(self):
+        for path in FILES:
+            tree = ast.parse(path.read_text(encoding="utf-8"))
+            self.assertEqual(faults_at_the_top(tree), [], path.name)
+
+    def test_what_is_found(self):
+        plain = ["1", "-1", "'a'", "b'a'", "True", "None", "(1, (2, 'x'))", "[1, None]", "{'a': 1, 2: (3,)}", "(f, f)"]
+        other = ["W[0]", "W", "f()", "len('a')", "'a'.upper()", "W.a", "(1, W[0])", "[f()]", "{'a': W[0]}", "{W: 1}",
+                 "{1, 2}", "g", "[x for x in W]", "1 + 1", "1.5", "f'a'", "lambda: 1", "1 if f else 2", "(*W, 1)", "{**W}"]
+        for texts, faults in ((plain, []), (other, [6])):
+            for text in texts:
+                code = f'"""Words."""\nfrom a import b\nW = (1, 2)\ndef f():\n    pass\nX = {text}\ndef g():\n    pass\n'
+                with self.subTest(text):
+                    self.assertEqual(faults_at_the_top(ast.parse(code)), faults)
+
+    def test_other_rows_are_found(self):
+        for row in ("A, B = 0, 1", "A = B = 0", "A = 1\nA = 2", "A += 1", "f()", "if A:\n    B = 1", "A.b = 1", "import a",
+                    "from a import b\nb = 1", "def f():\n    pass\nf = 1", "for A in (1, 2):\n    pass", "A: int = 1", "del A"):
+            with self.subTest(row):
+                self.assertEqual(len(faults_at_the_top(ast.parse(row))), 1)
+
+
 class LanguageTest(unittest.TestCase):
     def each_tree(self):
         for path in FILES:
