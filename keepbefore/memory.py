@@ -62,6 +62,20 @@ class Memory:
         turns = [(records[slot][TURN], slot) for slot in records if records[slot][IS_DIRTY]]
         return [slot for _, slot in sorted(turns)]
 
+    def shape(self):
+        """All that decides what comes: of turns and times only their order, as these numbers never come again."""
+        came = sorted([known.came for known in self._known.values()])
+        used = sorted([known.used for known in self._known.values()])
+        dirty = self.dirty_slots()
+        records = self.records()
+        return tuple([
+            (
+                slot, records[slot][BLOCK], dirty.index(slot) if slot in dirty else None,
+                came.index(self._known[slot].came), used.index(self._known[slot].used), self._known[slot].uses,
+            )
+            for slot in records
+        ])
+
     def slot_to_take(self, choice):
         """An unknown slot, otherwise the clean one that the choice tells; None if all are dirty."""
         for slot in range(self._slots):

@@ -32,3 +32,13 @@ def carry_out(pair, requests):
         else:
             results.append(pair.write(request[1], request[2]))
     return results
+
+
+def which_hit(pair, requests):
+    """Carries out valid requests and returns which of them are hits, a list of booleans."""
+    are_hits = []
+    for request in requests:
+        hits = pair.hits
+        carry_out(pair, [request])
+        are_hits.append(pair.hits > hits)
+    return are_hits

@@ -28,6 +28,14 @@ OTHER_KINDS = [
     [], [0], [1, 2], ["done"], [None], -1, -10 ** 30, 10 ** 30,
 ]
 
+# What is no request of a pair of two blocks.
+WRONG_REQUESTS = [
+    ("read",), ("read", 2), ("read", -1), ("read", True), ("read", None), ("read", "0"), ("read", (0,)), ("read", 0, 5),
+    ("write", 0), ("write", 0, 1000), ("write", 0, -1), ("write", 0, True), ("write", 0, None), ("write", 0, [5]),
+    ("write", 2, 5), ("write", False, 5), ("write", 0, 5, 5), ("forget", 0), ("Read", 0), ("", 0), (0, 0), (None, 0),
+    (("read", 0),), ["read", 0], ["write", 0, 5], "read", {}, *OTHER_KINDS,
+]
+
 
 def example_result(text):
     """What an example of the document gives, and what it says: two values or two errors."""

@@ -6,9 +6,8 @@ import unittest
 from keepbefore.costs import cheapest, cost, run
 from keepbefore.errors import InvalidCount, InvalidPrices, InvalidRequests, InvalidSize
 from keepbefore.rules import Rules
-from tests.helpers import OTHER_KINDS, TRIPLES, example_result
-from tests.model import Model
-from tests.twins import any_request, any_rules
+from tests.helpers import OTHER_KINDS, TRIPLES, WRONG_REQUESTS, example_result
+from tests.twins import any_requests, any_rules, walk
 
 EXAMPLE = """
 >>> from keepbefore.costs import run
@@ -19,24 +18,6 @@ EXAMPLE = """
 
 RULES = Rules("back", "keep", "used", 2)
 FREE = (0,) * 6
-
-# What is no request of a pair of two blocks.
-WRONG_REQUESTS = [
-    ("read",), ("read", 2), ("read", -1), ("read", True), ("read", None), ("read", "0"), ("read", (0,)), ("read", 0, 5),
-    ("write", 0), ("write", 0, 1000), ("write", 0, -1), ("write", 0, True), ("write", 0, None), ("write", 0, [5]),
-    ("write", 2, 5), ("write", False, 5), ("write", 0, 5, 5), ("forget", 0), ("Read", 0), ("", 0), (0, 0), (None, 0),
-    (("read", 0),), ["read", 0], ["write", 0, 5], "read", {}, *OTHER_KINDS,
-]
-
-
-def any_requests(source, blocks, most=40):
-    return [any_request(source, blocks) for _ in range(source.randint(0, most))]
-
-
-def walk(blocks, slots, rules, requests):
-    model = Model(blocks, slots, rules)
-    results = [model.call(*request)[1] for request in requests]
-    return results, model.counts()
 
 
 class PricesTest(unittest.TestCase):
@@ -96,7 +77,7 @@ class RunTest(unittest.TestCase):
             blocks, slots, rules = source.randint(1, 16), source.randint(1, 8), any_rules(source)
             requests = any_requests(source, blocks)
             result = run(blocks, slots, Rules(*rules), requests)
-            self.assertEqual(repr(result), repr(walk(blocks, slots, rules, requests)))
+            self.assertEqual(repr(result), repr(walk(blocks, slots, rules, requests)[:2]))
 
     def test_the_arguments_stay_and_the_results_are_new(self):
         requests = [("write", 0, 5), ("read", 0), ("read", 1)]

@@ -29,6 +29,9 @@ BARRED_NAMES = re.compile(
 
 # For each listed class its methods and properties, for each one of these and for each function its parameters.
 INTERFACE = {
+    "comparison": {
+        "first_parting": "(blocks, slots, rules, other, *, most=3)",
+    },
     "costs": {
         "cost": "(counts, prices)",
         "run": "(blocks, slots, rules, requests)",
@@ -45,6 +48,18 @@ INTERFACE = {
             "lasting": property,
             "pending": property,
             "counts": property,
+        },
+    },
+    "observers": {
+        "RulesObserver": {
+            "__init__": "(self, blocks, slots, bound)",
+            "see": "(self, requests, counts)",
+            "see_hits": "(self, requests, *are_hits)",
+            "best_requests": "(self, lists)",
+            "possible_counts": "(self, requests)",
+            "candidates": property,
+            "history": property,
+            "from_history": classmethod,
         },
     },
     "pairs": {
@@ -76,6 +91,17 @@ INTERFACE = {
     "plans": {
         "fewest_misses": "(slots, blocks)",
         "judge_plan": "(slots, blocks, plan)",
+    },
+    "rounds": {
+        "Repeated": {
+            "__init__": "(self, blocks, slots, rules, requests)",
+            "counts_after": "(self, rounds)",
+            "hits_after": "(self, rounds)",
+            "slot_writes": "(self, slot, rounds)",
+            "is_hit": "(self, number)",
+            "worn_after": "(self, limit)",
+            "settled": property,
+        },
     },
     "rules": {
         "Rules": {
@@ -133,9 +159,12 @@ class InterfaceTest(unittest.TestCase):
         else:
             self.assertIs(type(method), told)
 
-    def test_the_class_method_has_no_parameters(self):
-        rules = importlib.import_module("keepbefore.rules")
-        self.assertEqual(str(inspect.signature(rules.Recipes.safe)), "()")
+    def test_the_parameters_of_class_methods(self):
+        methods = {"rules.Recipes.safe": "()", "observers.RulesObserver.from_history": "(blocks, slots, bound, history)"}
+        for name, told in methods.items():
+            module, class_name, method = name.split(".")
+            thing = getattr(importlib.import_module(f"keepbefore.{module}"), class_name)
+            self.assertEqual(str(inspect.signature(getattr(thing, method))), told)
 
 
 def is_plain(node, functions):

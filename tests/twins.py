@@ -44,6 +44,26 @@ def any_kept(source, model):
     return tuple(tuple(at for at in range(len(waiting)) if source.random() < chance) for waiting in model.pending())
 
 
+def walk(blocks, slots, rules, requests):
+    """The results, the counts and the hits of these requests, by own walking."""
+    model = Model(blocks, slots, rules)
+    results, are_hits = [], []
+    for request in requests:
+        hits = model.hits
+        results.append(model.call(*request)[1])
+        are_hits.append(model.hits > hits)
+    return results, model.counts(), are_hits
+
+
+def any_requests(source, blocks, most=40, least=0):
+    return [any_request(source, blocks) for _ in range(source.randint(least, most))]
+
+
+def renamed(requests, names):
+    """The same requests of blocks that are called otherwise."""
+    return [(name, names[block], *value) for name, block, *value in requests]
+
+
 def new_pair(blocks, slots, rules, recipes=SAFE):
     return Pair(blocks, slots, Rules(*rules), recipes=Recipes(*recipes))
 
