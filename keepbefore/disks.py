@@ -19,6 +19,14 @@ class Disk:
         self._writes = 0
         self._syncs = 0
 
+    @classmethod
+    def holding(cls, contents):
+        """A disk on which these contents are, without a write that would count."""
+        disk = cls(len(contents))
+        disk._contents = list(contents)
+        disk._lasting = list(contents)
+        return disk
+
     def read(self, cell):
         self._check_cell(cell)
         self._reads += 1

@@ -117,6 +117,11 @@ class Pair:
         self._is_on = True
         return self.dirty
 
+    def put_in_disks(self, slow_contents, fast_contents):
+        """Replaces both disks of a pair that is off by others, on which these contents are."""
+        self._slow = Disk.holding(slow_contents)
+        self._fast = Disk.holding(fast_contents)
+
     # Dying disks.
 
     def lose_fast(self):

@@ -45,8 +45,8 @@ class Repeated:
         # For each round that was walked which requests hit, and for each number of rounds what was tallied by then.
         self._are_hits = []
         self._tallies = [pair.tally()]
-        first, length = self._walk(pair, requests)
-        self._settled = _shortest(self._walked_rounds(), first, length)
+        first = self._walk(pair, requests)
+        self._settled = _shortest(self._walked_rounds(), first)
 
     @property
     def settled(self):
@@ -90,7 +90,7 @@ class Repeated:
         return high
 
     def _walk(self, pair, requests):
-        """Walks until what the pair knows was there before; returns from which round on, and after how many."""
+        """Walks until what the pair knows was there before, and returns ahead of which round it was."""
         first_rounds = {}
         shape = pair.memory_shape()
         while shape not in first_rounds:
@@ -98,8 +98,7 @@ class Repeated:
             self._are_hits.append(which_hit(pair, requests))
             self._tallies.append(pair.tally())
             shape = pair.memory_shape()
-        first = first_rounds[shape]
-        return (first, len(self._are_hits) - first)
+        return first_rounds[shape]
 
     def _walked_rounds(self):
         """What has to be the same in rounds that repeat."""
@@ -129,14 +128,11 @@ def _differences(later, earlier):
     return [after - before for after, before in zip(later, earlier)]
 
 
-def _shortest(rounds, first, length):
-    """The least first round and length, from those by which what the pair knows repeats.
-
-    Another length by which the rounds repeat divides that one, if it is the least.
-    """
+def _shortest(rounds, first):
+    """The least first round and length, from a first round on behind which these rounds come again."""
     cycle = rounds[first:]
     least = 1
-    while length % least != 0 or cycle[least:] + cycle[:least] != cycle:
+    while cycle[least:] + cycle[:least] != cycle:
         least += 1
     while first > 0 and rounds[first - 1] == rounds[first - 1 + least]:
         first -= 1

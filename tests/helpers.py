@@ -33,7 +33,8 @@ WRONG_REQUESTS = [
     ("read",), ("read", 2), ("read", -1), ("read", True), ("read", None), ("read", "0"), ("read", (0,)), ("read", 0, 5),
     ("write", 0), ("write", 0, 1000), ("write", 0, -1), ("write", 0, True), ("write", 0, None), ("write", 0, [5]),
     ("write", 2, 5), ("write", False, 5), ("write", 0, 5, 5), ("forget", 0), ("Read", 0), ("", 0), (0, 0), (None, 0),
-    (("read", 0),), ["read", 0], ["write", 0, 5], "read", {}, *OTHER_KINDS,
+    ("forget", 0, 5), ("Write", 0, 5), ("", 0, 5), (None, 0, 5), (("read", 0),), ["read", 0], ["write", 0, 5], "read",
+    {}, *OTHER_KINDS,
 ]
 
 

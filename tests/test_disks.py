@@ -101,6 +101,15 @@ class OrdinaryDiskTest(DiskTestCase):
         with self.assertRaises(TypeError):
             Disk(3, 7)
 
+    def test_a_disk_that_holds_contents(self):
+        contents = [5, None, (1, True)]
+        disk = Disk.holding(contents)
+        contents.clear()
+        self.assertEqual([disk.contents, disk.lasting], [(5, None, (1, True))] * 2)
+        self.assertEqual([disk.pending, disk.counts], [[], (0, 0, 0)])
+        disk.write(0, 6)
+        self.assertEqual([disk.contents, disk.lasting], [(6, None, (1, True)), (5, None, (1, True))])
+
     def test_reading_shows_pending_writes(self):
         disk = Disk(2)
         self.assertIsNone(disk.write(1, 5))

@@ -29,6 +29,28 @@ BARRED_NAMES = re.compile(
 
 # For each listed class its methods and properties, for each one of these and for each function its parameters.
 INTERFACE = {
+    "bench": {
+        "Bench": {
+            "__init__": "(self, rules, recipes)",
+            "set_part": "(self, part, value)",
+            "set_recipe": "(self, word, recipe)",
+            "lean": "(self, word)",
+            "save": "(self, name)",
+            "restore": "(self, name)",
+            "undo": "(self)",
+            "redo": "(self)",
+            "apply": "(self, operations)",
+            "rules": property,
+            "recipes": property,
+            "operations": property,
+            "names": property,
+            "replay": classmethod,
+        },
+    },
+    "codes": {
+        "image": "(pair)",
+        "load": "(numbers)",
+    },
     "comparison": {
         "first_parting": "(blocks, slots, rules, other, *, most=3)",
     },
@@ -49,6 +71,26 @@ INTERFACE = {
             "pending": property,
             "counts": property,
         },
+    },
+    "logs": {
+        "first_error": "(blocks, log)",
+        "possible_values": "(blocks, log)",
+        "Recorder": {
+            "__init__": "(self, pair)",
+            "read": "(self, block)",
+            "write": "(self, block, value)",
+            "fail_at": "(self, steps)",
+            "cut": "(self)",
+            "restart": "(self, slow_kept, fast_kept)",
+            "lose_fast": "(self)",
+            "lose_slow": "(self)",
+            "resume": "(self)",
+            "log": property,
+        },
+    },
+    "notation": {
+        "format_setup": "(blocks, slots, rules, recipes, requests)",
+        "parse_setup": "(text)",
     },
     "observers": {
         "RulesObserver": {
@@ -160,7 +202,11 @@ class InterfaceTest(unittest.TestCase):
             self.assertIs(type(method), told)
 
     def test_the_parameters_of_class_methods(self):
-        methods = {"rules.Recipes.safe": "()", "observers.RulesObserver.from_history": "(blocks, slots, bound, history)"}
+        methods = {
+            "rules.Recipes.safe": "()",
+            "observers.RulesObserver.from_history": "(blocks, slots, bound, history)",
+            "bench.Bench.replay": "(rules, recipes, operations)",
+        }
         for name, told in methods.items():
             module, class_name, method = name.split(".")
             thing = getattr(importlib.import_module(f"keepbefore.{module}"), class_name)

@@ -25,7 +25,8 @@ class Hidden:
 
     def __init__(self, source, most_blocks=5, most_slots=3):
         self.source = source
-        self.blocks, self.slots, self.bound = source.randint(1, most_blocks), source.randint(1, most_slots), source.randint(0, 8)
+        self.blocks, self.slots = source.randint(1, most_blocks), source.randint(1, most_slots)
+        self.bound = source.randint(0, 8)
         self.triple = source.choice(TRIPLES)
         self.observer = RulesObserver(self.blocks, self.slots, self.bound)
         self.candidates = list(TRIPLES)

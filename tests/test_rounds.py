@@ -55,8 +55,12 @@ def walked(given, many):
         are_hits = model.play(requests)
         sums.append((model.hits, model.counts(), list(model.slot_writes)))
         (_, counts, writes), (_, counts_ahead, writes_ahead) = sums[-1], sums[-2]
-        rounds.append((are_hits, [a - b for a, b in zip(counts, counts_ahead)], [a - b for a, b in zip(writes, writes_ahead)]))
+        rounds.append((are_hits, differences(counts, counts_ahead), differences(writes, writes_ahead)))
     return rounds, sums
+
+
+def differences(later, earlier):
+    return [after - before for after, before in zip(later, earlier)]
 
 
 def settled_by_all(rounds):
@@ -74,7 +78,7 @@ def repeated_of(given):
 
 
 def any_given(source, most_blocks=16, most_slots=8, most=20, least=1):
-    """Sizes, rules and requests; many of them with slots that are too few, which makes for long ways until all repeats."""
+    """Sizes, rules and requests; often with too few slots, so that it is a long way until all repeats."""
     blocks = source.choice([source.randint(1, most_blocks), most_blocks])
     slots = source.choice([source.randint(1, most_slots), most_slots])
     share = source.choice([0, 0.3, 0.6])
@@ -173,8 +177,8 @@ class AfterTest(unittest.TestCase):
             times = source.choice([1, 2, (10 ** 17) // length])
             for shown in (self.all_after(repeated, given[1], number + extra) for extra in (0, 1, length - 1)):
                 self.assertEqual(shown[5], sum(shown[7:]))
-            start, next_one, far = [self.all_after(repeated, given[1], number + extra) for extra in (0, length, length * times)]
-            for before, after, behind in zip(start, next_one, far):
+            rounds = (number, number + length, number + length * times)
+            for before, after, behind in zip(*[self.all_after(repeated, given[1], many_rounds) for many_rounds in rounds]):
                 self.assertEqual(behind - before, times * (after - before))
             hits = [repeated.is_hit(many * number + place) for place in range(many)]
             self.assertEqual(sum(hits), repeated.hits_after(number + 1) - repeated.hits_after(number))
@@ -238,6 +242,19 @@ class WornTest(unittest.TestCase):
         slow = Repeated(9, 8, Rules("through", "keep", "came", 0), [("read", block) for block in range(9)])
         self.assertEqual(slow.settled, (0, 8))
         self.assertEqual(slow.worn_after(MOST), (MOST // 9) * 8 + slow.worn_after(MOST % 9))
+
+    def test_slots_that_wear_slowly(self):
+        # The write takes another slot in each round, so that each slot is written three times in eight rounds.
+        given = (8, 8, ("back", "keep", "came", 8), [("write", 0, 5), *[("read", block) for block in range(1, 8)]])
+        repeated, (_, sums) = repeated_of(given), walked(given, 200)
+        for limit in range(30):
+            self.assertEqual(repeated.worn_after(limit), [max(writes) > limit for _, _, writes in sums].index(True))
+        _, length = repeated.settled
+        self.assertGreater(length, 3)
+        in_a_length = sums[50 + length][2][0] - sums[50][2][0]
+        for many in (1, 10 ** 6, 10 ** 16):
+            self.assertEqual(repeated.worn_after(20 + many * in_a_length), repeated.worn_after(20) + many * length)
+        self.assertGreater(repeated.worn_after(MOST), 2 * MOST)
 
     def test_no_slot_is_ever_written_more_often(self):
         repeated = Repeated(2, 1, RULES, [("read", 0)])
@@ -321,7 +338,8 @@ class WholeTest(unittest.TestCase):
                     repeated = Repeated(16, 8, Rules(*triple, bound), requests)
                     first, length = repeated.settled
                     self.assertGreater(sum(repeated.counts_after(MOST)), MOST)
-                    self.assertEqual(repeated.is_hit(MOST), repeated.is_hit(20 * first + (MOST - 20 * first) % (20 * length)))
+                    earlier = 20 * first + (MOST - 20 * first) % (20 * length)
+                    self.assertIs(repeated.is_hit(MOST), repeated.is_hit(earlier))
                     repeated.worn_after(MOST)
 
 
